@@ -260,7 +260,9 @@ class Puts(unittest.TestCase):
             ("const", dict()), ("move", dict()), ("two", dict(kind=1)), ("one", dict(kind=1)), ("fused", dict(kind=9)),
             ("mantissa", dict(kind=9)), ("convert", dict()), ("compare", dict()), ("isnan", dict(kind=9)),
             ("choose", dict()), ("function", dict(kind=9)), ("power", dict(kind=9)), ("draw", dict(kind=8)),
-            ("cell", dict()), ("ask", dict()),
+            ("cell", dict()), ("ask", dict()), ("two", dict(kind=1, aux=1)), ("one", dict(kind=1, aux=1)),
+            ("convert", dict(aux=1)), ("compare", dict(aux=1)), ("function", dict(kind=9, aux=1)),
+            ("draw", dict(kind=8, aux=1)), ("cell", dict(aux=1)),
         ):
             self.assertEqual(self.answer(ins(word, dst=5, **fields)), [-2, 5, 1], word)
             self.assertEqual(self.answer(ins(word, dst=4, **fields)), [0], word)
