@@ -1,14 +1,13 @@
 """From bytes to the code that they tell."""
 
 from lanecode.errors import NoBytes
+from lanecode.forms import BEGINNING, INSTRUCTION_WIDTHS
 from lanecode.limits import (
     MOST_AXES, MOST_CALLS, MOST_INPUTS, MOST_INSTRUCTIONS, MOST_LENGTHS, MOST_NAMES, MOST_OPERANDS, MOST_PIECES,
     MOST_RESULTS, MOST_SLOTS,
 )
 from lanecode.parts import Call, Code, Hold, Instruction, Piece, Result, Shape
 
-BEGINNING = (76, 87, 67, 49)
-INSTRUCTION_WIDTHS = (1, 1, 1, 1, 2, 2, 2, 2, 4, 8, 4, 4)
 # Where a piece's head keeps how many instructions its body has.
 BODY_LENGTH = 5
 

@@ -3,7 +3,15 @@
 from lanecode.bytes_in import code_of_bytes
 from lanecode.errors import NoBytes, NoText
 from lanecode.good import first_fault
+from lanecode.sameness import are_same
 from lanecode.text_in import code_of_text
+
+# What and where of bytes that are no code's.
+NO_CODE = (1, 0)
+
+
+def refusal_of(fault):
+    return [-2, fault[0], fault[1]]
 
 
 class Holder:
@@ -14,7 +22,7 @@ class Holder:
         try:
             code = code_of_bytes(row)
         except NoBytes:
-            return [-2, 1, 0]
+            return refusal_of(NO_CODE)
         return self.hold_if_good(code)
 
     def read(self, row):
@@ -27,6 +35,17 @@ class Holder:
     def hold_if_good(self, code):
         fault = first_fault(code)
         if fault is not None:
-            return [-2, fault[0], fault[1]]
+            return refusal_of(fault)
         self.code = code
         return [0]
+
+    def same(self, row):
+        """Asked only while code is held."""
+        try:
+            other = code_of_bytes(row)
+        except NoBytes:
+            return refusal_of(NO_CODE)
+        fault = first_fault(other)
+        if fault is not None:
+            return refusal_of(fault)
+        return [1 if are_same(self.code, other) else 0]

@@ -1,7 +1,9 @@
 """The calls on one object, one behind another, and what they answer."""
 
 from lanecode.holder import Holder
-from lanecode.tellings import tell_at, tell_counts, tell_name, tell_slot
+from lanecode.tellings import (
+    tell_at, tell_bytes, tell_counts, tell_most, tell_name, tell_slot, tell_text, tell_uses, tell_where,
+)
 
 LOAD = 1
 READ = 2
@@ -9,6 +11,11 @@ COUNTS = 3
 SLOT = 4
 NAME = 5
 AT = 6
+WHERE = 7
+USES = 8
+MOST = 9
+TEXT = 10
+SAME = 12
 # Of each call, by its number: how many whole numbers it has, and how many rows. No call has the number 0.
 NUMBERS_OF_CALL = (0, 0, 0, 0, 1, 1, 2, 2, 1, 1, 0, 0, 0)
 ROWS_OF_CALL = (0, 1, 1, 0, 0, 0, 0, 0, 0, 0, 0, 0, 1)
@@ -23,7 +30,16 @@ def answer_of_code(code, number, wholes):
         return tell_name(code, wholes[0])
     if number == AT:
         return tell_at(code, wholes[0], wholes[1])
-    raise NotImplementedError(f"call {number} is not built yet")
+    if number == WHERE:
+        return tell_where(code, wholes[0], wholes[1])
+    if number == USES:
+        return tell_uses(code, wholes[0])
+    if number == MOST:
+        return tell_most(code, wholes[0])
+    if number == TEXT:
+        return tell_text(code)
+    # Of the calls only bytes is left.
+    return tell_bytes(code)
 
 
 def answer_of_call(holder, number, wholes, row):
@@ -33,6 +49,8 @@ def answer_of_call(holder, number, wholes, row):
         return holder.read(row)
     if holder.code is None:
         return [-8]
+    if number == SAME:
+        return holder.same(row)
     return answer_of_code(holder.code, number, wholes)
 
 

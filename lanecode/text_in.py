@@ -1,6 +1,7 @@
 """From a text to the code that it tells."""
 
 from lanecode.errors import NoText
+from lanecode.forms import HEX_DIGITS, NUMBER_WORD, SLOT_WORD
 from lanecode.limits import (
     FOUR_BYTES, MOST_AXES, MOST_CALLS, MOST_INPUTS, MOST_INSTRUCTIONS, MOST_LENGTHS, MOST_NAMES,
     MOST_OPERANDS, MOST_PIECES, MOST_RESULTS, MOST_SLOTS, ONE_BYTE, TWO_BYTES,
@@ -10,7 +11,6 @@ from lanecode.parts import NUMBER, SLOT, Call, Code, Hold, Instruction, Piece, R
 
 # No text of code has other signs than these, so no other sign needs a place in a word.
 SIGNS = "\n 0123456789>abcdefghijklmnopqrstuvwxyz"
-HEX_DIGITS = "0123456789abcdef"
 # As many digits as the largest number of eight bytes has: no longer row of digits is made a number.
 MOST_DIGITS = 20
 CALL_HEAD_MOST = (1, 255, 255, 18446744073709551615, 18446744073709551615)
@@ -114,9 +114,9 @@ def name_of(words):
 
 def hold_of(bank_word, number_word):
     number = number_of(number_word, TWO_BYTES)
-    if bank_word == "s":
+    if bank_word == SLOT_WORD:
         return Hold(SLOT, number)
-    if bank_word == "n":
+    if bank_word == NUMBER_WORD:
         return Hold(NUMBER, number)
     raise NoText()
 

@@ -93,7 +93,7 @@ def to_bytes(told):
         row += bytes_of_piece(one)
     for one in told["calls"]:
         row += bytes_of_call(one)
-    for body in [told["main"]] + [one["body"] for one in told["pieces"]]:
+    for body in bodies_of(told):
         for one in body:
             row += bytes_of_instruction(one)
     return row
@@ -131,10 +131,13 @@ def to_text(told):
     return text
 
 
+def bodies_of(told):
+    return [told["main"]] + [one["body"] for one in told["pieces"]]
+
+
 def can_be_text(told):
     """A text tells no unknown op, no twelfth number but 0, and no name without bytes."""
-    bodies = [told["main"]] + [one["body"] for one in told["pieces"]]
-    instructions = [one for body in bodies for one in body]
+    instructions = [one for body in bodies_of(told) for one in body]
     return all(told["names"]) and all([one["op"] < len(WORDS) and one["twelfth"] == 0 for one in instructions])
 
 
@@ -145,6 +148,50 @@ def load(row):
 def read(text):
     row = list(text.encode("latin-1")) if isinstance(text, str) else list(text)
     return [2, len(row)] + row
+
+
+def same(row):
+    return [12, len(row)] + list(row)
+
+
+COUNTS = [3]
+TEXT = [10]
+BYTES = [11]
+
+
+def every_call(told):
+    """Each call that asks of the code held, with all numbers that it can be asked for, and the first that it can't."""
+    bodies = bodies_of(told)
+    wheres = sorted({one["where"] for body in bodies for one in body} | {1, 4294967295})
+    asked = [COUNTS, TEXT, BYTES, same(to_bytes(told)), same([])]
+    asked += [[number, slot] for number in (4, 8) for slot in range(len(told["slots"]) + 1)]
+    asked += [[5, name] for name in range(len(told["names"]) + 1)]
+    for number, body in enumerate(bodies + [[]]):
+        asked += [[6, number, place] for place in range(len(body) + 1)] + [[9, number]]
+        asked += [[7, number, where] for where in wheres]
+    return asked
+
+
+def own_copy(told):
+    """A copy in which no part stands twice, as END may in code: what is changed there is changed there alone."""
+    if isinstance(told, dict):
+        return {key: own_copy(part) for key, part in told.items()}
+    if isinstance(told, (list, tuple)):
+        return type(told)([own_copy(part) for part in told])
+    return told
+
+
+def loops_around(body):
+    """Of each loop that ends the place of its back; of each place the set of loops that hold it."""
+    ended_by = {}
+    for place, told in enumerate(body):
+        if told["op"] == 21:
+            begun = [spot for spot in range(place) if body[spot]["op"] == 19 and spot not in ended_by]
+            if begun:
+                ended_by[max(begun)] = place
+    held_by = [{spot for spot in range(place)
+                if body[spot]["op"] == 19 and place <= ended_by.get(spot, len(body))} for place in range(len(body))]
+    return ended_by, held_by
 
 
 def ask(*calls):

@@ -3,11 +3,11 @@
 import unittest
 
 from helper import (
-    END, EXAMPLE, RICH, answers, ask, call, code, example_text, ins, judged, load, piece, read, shape, to_bytes, to_text,
+    END, EXAMPLE, RICH, answers, ask, call, code, every_call, example_text, ins, judged, load, piece, read, same, shape,
+    to_bytes, to_text,
 )
 
-ASKED = [[3]] + [[4, number] for number in range(8)] + [[5, number] for number in range(4)]
-ASKED += [[6, body, place] for body in range(4) for place in range(9)]
+ASKED = every_call(RICH)
 
 
 class Held(unittest.TestCase):
@@ -61,12 +61,15 @@ class Held(unittest.TestCase):
 
 class Refused(unittest.TestCase):
     def test_no_code_is_held_at_first(self):
-        every = ([3], [4, 0], [5, 0], [6, 0, 0], [7, 0, 0], [8, 0], [9, 0], [10], [11], [12, 2, 1, 2], [12, 0])
+        every = [[3], [4, 0], [5, 0], [6, 0, 0], [7, 0, 0], [8, 0], [9, 0], [10], [11], [12, 2, 1, 2], [12, 0]]
+        every += [same(to_bytes(EXAMPLE)), same(to_bytes(code(main=[]))), [7, 9, 9], [8, 4294967295], [9, 4294967295]]
         self.assertEqual(ask(*every), [[-8]] * len(every))
 
     def test_refused_code_is_not_held(self):
         refused = [load([]), read(""), load(to_bytes(code(main=[]))), read(to_text(code(main=[])))]
-        self.assertEqual(ask(*refused, [3]), [[-2, 1, 0], [-5], [-2, 5, 0], [-2, 5, 0], [-8]])
+        found = ask(*refused, *ASKED)
+        self.assertEqual(found[:4], [[-2, 1, 0], [-5], [-2, 5, 0], [-2, 5, 0]])
+        self.assertEqual(found[4:], [[-8]] * len(ASKED))
 
     def test_what_is_refused_leaves_what_was_held(self):
         bad = [
@@ -75,10 +78,12 @@ class Refused(unittest.TestCase):
         ]
         refused = [load([76]), load(to_bytes(code()) + [0]), read("code 0\n"), read("code 0\nmain\nend\n")]
         refused += [load(to_bytes(one)) for one in bad] + [read(to_text(one)) for one in bad]
+        refused += [same(to_bytes(one)) for one in bad] + [same([]), same(list(example_text().encode()))]
+        refused += [[4, 99], [5, 99], [6, 0, 99], [6, 9, 0], [7, 9, 0], [8, 99], [9, 9]]
         before = ask(load(to_bytes(RICH)), *ASKED)[1:]
         for one in refused:
             after = ask(load(to_bytes(RICH)), one, *ASKED)
-            self.assertIn(after[1][0], (-2, -5))
+            self.assertIn(after[1][0], (-2, -4, -5))
             self.assertEqual(after[2:], before)
         after = ask(read(to_text(RICH)), *refused, *ASKED)
         self.assertEqual(after[1 + len(refused):], before)
@@ -97,9 +102,17 @@ class Lists(unittest.TestCase):
         self.assertEqual(answers([3] + load([]) + load(to_bytes(code())) + [4, 0, 3]),
                          [1, -8, 3, -2, 1, 0, 1, 0, 1, -4, 9, 0, 0, 0, 0, 0, 0, 1, 1, 0])
 
-    def test_calls_to_come_have_their_place(self):
+    def test_each_call_takes_its_own_numbers(self):
         asked = [[7, 3, 3], [3], [8, 3], [3], [9, 3], [3], [10], [3], [11], [3], [12, 3, 3, 3, 3], [3], [12, 0], [3]]
         self.assertEqual(ask(*asked, load([])), [[-8]] * len(asked) + [[-2, 1, 0]])
+        counts = [0, 0, 0, 0, 0, 0, 1, 1, 0]
+        found = ask(load(to_bytes(code())), *asked)[1:]
+        self.assertEqual(found[1::2], [counts] * 7)
+        self.assertEqual(found[0:6:2] + found[10::2], [[-4], [-4], [-4], [-2, 1, 0], [-2, 1, 0]])
+
+    def test_answers_of_one_number_and_of_more(self):
+        told = answers(load(to_bytes(EXAMPLE)) + [7, 1, 5, 7, 1, 9, 8, 1, 9, 1] + same(to_bytes(EXAMPLE)) + [7, 9, 9])
+        self.assertEqual(told, [1, 0, 2, 1, 2, 1, 0, 1, 2, 1, 8, 1, 1, 1, -4])
 
     def test_three_hundred_calls(self):
         text = read(example_text())
@@ -117,14 +130,15 @@ class Lists(unittest.TestCase):
             __setitem__ = __delitem__ = __iadd__ = __imul__ = refuse
 
         given = load(to_bytes(RICH)) + load([76, 87]) + read(example_text()) + read("code") + [3, 4, 0, 5, 0, 6, 0, 0]
+        given += [7, 0, 0, 8, 0, 9, 1, 10, 11] + same(to_bytes(RICH)) + same(to_bytes(EXAMPLE)) + same([1, 2])
         watched = Watched(given)
         answers(watched)
         self.assertEqual(list(watched), given)
 
     def test_nothing_is_kept_from_one_time_to_the_next(self):
-        given = load(to_bytes(RICH)) + [4, 0, 5, 0]
+        given = load(to_bytes(RICH)) + [number for one in ASKED for number in one]
         first = answers(given)
-        self.assertEqual(answers([3]), [1, -8])
+        self.assertEqual(answers([3, 10, 11] + same(to_bytes(RICH))), [1, -8] * 4)
         self.assertEqual(answers(given), first)
 
     def test_answers_are_whole_numbers(self):

@@ -1,8 +1,8 @@
-"""The document's own examples, those that load, read, counts, slot, name and at can show."""
+"""The document's own examples, all of them."""
 
 import unittest
 
-from helper import EXAMPLE, ask, example_text, judged, load, read, to_bytes, to_text
+from helper import END, EXAMPLE, ask, code, example_text, ins, judged, load, piece, read, to_bytes, to_text
 
 
 def answer(**changed):
@@ -20,6 +20,20 @@ class Examples(unittest.TestCase):
     def test_counts(self):
         for told in (read(example_text()), load(to_bytes(EXAMPLE))):
             self.assertEqual(ask(told, [3]), [[0], [0, 2, 1, 0, 1, 1, 3, 11, 128]])
+
+    def test_most_uses_and_where(self):
+        for told in (read(example_text()), load(to_bytes(EXAMPLE))):
+            found = ask(told, [9, 1], [9, 0], [8, 0], [8, 1], [7, 1, 5])
+            self.assertEqual(found, [[0], [8], [3], [1], [2], [1, 2]])
+
+    def test_most_of_loops_in_one_another(self):
+        body = [
+            ins("loop"), ins("round", imm=3, to=8), ins("loop"), ins("move"), ins("round", imm=5, to=7), ins("move"),
+            ins("back", to=3), ins("back", to=1), END,
+        ]
+        told = code(pieces=[piece(body=body)])
+        for given in (read(to_text(told)), load(to_bytes(told))):
+            self.assertEqual(ask(given, [9, 1]), [[0], [78]])
 
     def test_skip_for_tell(self):
         self.assertEqual(answer(line_6="skip 0 0 0 0 0 0 0 0 0 2"), [0])

@@ -3,7 +3,7 @@
 import random
 import unittest
 
-from helper import END, call, code, ins, judged, piece, shape
+from helper import END, call, code, ins, judged, loops_around, piece, shape
 
 MOST = 1048576
 FAIL = ins("fail")
@@ -398,14 +398,7 @@ def first_wrong(body, main):
     """The document's words on ways, each instruction with the whole set of loops that hold it."""
     if not body:
         return 0
-    ended_by = {}
-    for place, told in enumerate(body):
-        if told["op"] == 21:
-            begun = [spot for spot in range(place) if body[spot]["op"] == 19 and spot not in ended_by]
-            if begun:
-                ended_by[max(begun)] = place
-    held_by = [{spot for spot in range(place)
-                if body[spot]["op"] == 19 and place <= ended_by.get(spot, len(body))} for place in range(len(body))]
+    ended_by, held_by = loops_around(body)
     for place in range(len(body)):
         if not own_rule(body, main, place, ended_by, held_by):
             return place
