@@ -183,16 +183,21 @@ class Differing(unittest.TestCase):
         self.differs("calls", 0, to=call(0, 0, operands="s0 n5", results="s2 n6"))
         self.differs("calls", 0, to=call(0, 0, operands="s0 n5", results="s1 n5"))
 
-    def test_sort_and_kind_of_a_call(self):
+    def test_sort_of_a_call(self):
+        """A piece and a function of the same number, both from truths to truths: all but the sort is the same."""
+        slots = [shape(0, 4), shape(0, 4)]
+        pieces = [piece(inputs=[shape(0, 4)], results=[(0, [4], 0)])] * 4
+        one = code(slots=slots, pieces=pieces, calls=[call(0, 3, operands="s0", results="s1")])
+        other = code(slots=slots, pieces=pieces, calls=[call(1, 3, operands="s0", results="s1")])
+        self.assertEqual(are_same(one, other), [0])
+
+    def test_functions_that_ask_for_the_same(self):
         slots = [shape(9, 4), shape(9, 4)]
-        pieces = [piece(results=[(9, [4], 0)])] * 11
-        one = code(slots=slots, pieces=pieces, calls=[call(1, 3, 9, 0, 0, "s0", "s1")])
-        other = code(slots=slots, pieces=pieces, calls=[call(1, 8, 9, 0, 0, "s0", "s1")])
-        self.assertEqual(are_same(one, other), [0])
-        of_piece = [piece(inputs=[shape(3, 4)], results=[(3, [4], 0)])] * 4
-        one = code(slots=[shape(3, 4), shape(3, 4)], pieces=of_piece, calls=[call(0, 3, 0, 0, 0, "s0", "s1")])
-        other = code(slots=[shape(3, 4), shape(3, 4)], pieces=of_piece, calls=[call(1, 3, 3, 0, 0, "s0", "s1")])
-        self.assertEqual(are_same(one, other), [0])
+        calls = [call(1, which, 9, operands="s0", results="s1") for which in (3, 6, 8)]
+        for one in calls:
+            for other in calls:
+                answer = are_same(code(slots=slots, calls=[one]), code(slots=slots, calls=[other]))
+                self.assertEqual(answer, [1 if one == other else 0])
 
     def test_lengths_of_lists_are_told_apart(self):
         """The same numbers in another part."""
